@@ -1,0 +1,84 @@
+package large_test
+
+import (
+	"math/big"
+	"math/rand"
+	"testing"
+
+	"polestar/large"
+)
+
+// worthFrac: what a fraction is worth, told by the library.
+func worthFrac(x large.Frac) *big.Rat {
+	told := x.Frac()
+	return new(big.Rat).SetFrac(worth(large.From(told.Num)), worth(large.From(told.Den)))
+}
+
+func sameFrac(t *testing.T, what string, got large.Frac, want *big.Rat) {
+	t.Helper()
+	told := got.Frac()
+	same(t, what+", the numerator", large.From(told.Num), want.Num())
+	same(t, what+", the denominator", large.From(told.Den), want.Denom())
+	same(t, what+", Den", got.Den(), want.Denom())
+	if limbs := (max(want.Num().BitLen(), want.Denom().BitLen()) + 31) / 32; got.Limbs() != limbs {
+		t.Fatalf("%s: %d limbs, not %d", what, got.Limbs(), limbs)
+	}
+}
+
+// looksFrac: all that is asked of two fractions, against the library's.
+func looksFrac(t *testing.T, x, y large.Frac) {
+	t.Helper()
+	a, b := worthFrac(x), worthFrac(y)
+	sameFrac(t, "Add", x.Add(y), new(big.Rat).Add(a, b))
+	sameFrac(t, "Sub", x.Sub(y), new(big.Rat).Sub(a, b))
+	sameFrac(t, "Mul", x.Mul(y), new(big.Rat).Mul(a, b))
+	sameFrac(t, "Neg", x.Neg(), new(big.Rat).Neg(a))
+	if y.Sign() != 0 {
+		sameFrac(t, "Quo", x.Quo(y), new(big.Rat).Quo(a, b))
+	}
+	if x.Sign() != a.Sign() || x.Cmp(y) != a.Cmp(b) {
+		t.Fatalf("%v and %v: Sign %d, Cmp %d", a, b, x.Sign(), x.Cmp(y))
+	}
+	sameFrac(t, "x", x, a)
+	sameFrac(t, "y", y, b)
+	sameFrac(t, "there and back", large.FromFrac(x.Frac()), a)
+}
+
+// ratio: a fraction of two numbers, the second one of which is not taken if it is nought.
+func ratio(t *testing.T, num, den large.Int) large.Frac {
+	t.Helper()
+	if den.Sign() == 0 {
+		den = large.Of(-1)
+	}
+	x := large.Ratio(num, den)
+	sameFrac(t, "Ratio", x, new(big.Rat).SetFrac(worth(num), worth(den)))
+	return x
+}
+
+func TestFracAgainstLibrary(t *testing.T) {
+	r := rand.New(rand.NewSource(6))
+	for range 3000 {
+		looksFrac(t, ratio(t, sized(r, r.Intn(5)), sized(r, r.Intn(5))), ratio(t, sized(r, r.Intn(5)), sized(r, r.Intn(5))))
+	}
+	for range 50 {
+		looksFrac(t, ratio(t, sized(r, r.Intn(90)), sized(r, r.Intn(90))), ratio(t, sized(r, r.Intn(90)), sized(r, r.Intn(90))))
+	}
+	x := ratio(t, sized(r, 2500), sized(r, 2300)) // beyond the limit of the layers
+	looksFrac(t, x, ratio(t, sized(r, 5), sized(r, 2400)))
+}
+
+// TestFracCommon: fractions whose numbers have much in common, one's with the other's.
+func TestFracCommon(t *testing.T) {
+	r := rand.New(rand.NewSource(7))
+	for range 1500 {
+		g, h := sized(r, 1+r.Intn(4)), sized(r, 1+r.Intn(4))
+		a, b, c := sized(r, 1+r.Intn(3)), sized(r, 1+r.Intn(3)), sized(r, 1+r.Intn(3))
+		x := ratio(t, a.Mul(g), b.Mul(h))
+		looksFrac(t, x, ratio(t, c.Mul(h), b.Mul(g)))
+		looksFrac(t, x, ratio(t, c.Mul(g), a.Mul(h)))
+		looksFrac(t, x, ratio(t, c, b.Mul(h)))
+		looksFrac(t, x, x)
+		looksFrac(t, x, x.Neg())
+		looksFrac(t, x, ratio(t, b.Mul(h), a.Mul(g)))
+	}
+}
