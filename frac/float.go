@@ -29,7 +29,7 @@ func FromFloat(v float64) (api.Frac, api.Errno) {
 	if bits>>63 != 0 {
 		units = -units
 	}
-	return fit(large.Ratio(balance(large.Of(units), large.Of(1), n-1+leastUnit)))
+	return large.Ratio(balance(large.Of(units), large.Of(1), n-1+leastUnit)).Fit()
 }
 
 // Float: the nearest float. (P2.5)

@@ -32,7 +32,7 @@ func Parse(s string) (api.Frac, api.Errno) {
 	if !ok {
 		return api.Frac{}, api.ErrForm
 	}
-	return fit(x)
+	return x.Fit()
 }
 
 // parse: the fraction of whatever size whose text it is; false: there is none.

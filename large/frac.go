@@ -20,6 +20,14 @@ func FromFrac(x api.Frac) Frac { return Frac{From(x.Num), From(x.Den)} }
 // Frac: as the layers hand it on, in memory of its own.
 func (x Frac) Frac() api.Frac { return api.Frac{Num: x.num.Int(), Den: x.den.Int()} }
 
+// Fit: the same, or ErrLimit, if one of both numbers has too many limbs.
+func (x Frac) Fit() (api.Frac, api.Errno) {
+	if x.Limbs() > api.MaxLimbs {
+		return api.Frac{}, api.ErrLimit
+	}
+	return x.Frac(), api.OK
+}
+
 // Den: its denominator.
 func (x Frac) Den() Int { return x.den }
 

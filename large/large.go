@@ -1,4 +1,4 @@
-// Package large reckons with whole numbers of any size: what stands on the way to an answer has no limit (DOC.md, R7). The layers look at what they are given, and set the limits of what they answer.
+// Package large reckons with whole numbers of any size, fractions and complex numbers of them: what stands on the way to an answer has no limit (DOC.md, R7). The layers look at what they are given, and answer what fits into their limit.
 package large
 
 import "polestar/api"
@@ -39,6 +39,14 @@ func (x Int) Int() api.Int {
 		limbs[i] = uint32(x.size[i/2] >> (i % 2 * 32))
 	}
 	return api.Int{Neg: x.neg, Mag: limbs}
+}
+
+// Fit: the same, or ErrLimit, if its limbs are more than MaxLimbs.
+func (x Int) Fit() (api.Int, api.Errno) {
+	if x.Limbs() > api.MaxLimbs {
+		return api.Int{}, api.ErrLimit
+	}
+	return x.Int(), api.OK
 }
 
 // Limbs: how many limbs of 32 bits it has.

@@ -96,7 +96,7 @@ func Shift(x api.Int, n int) (api.Int, api.Errno) {
 	if bits > 0 && n > 32*api.MaxLimbs-bits { // asked first, as n may be beyond all memory
 		return api.Int{}, api.ErrLimit
 	}
-	return fit(large.From(x).Shift(n))
+	return large.From(x).Shift(n).Fit()
 }
 
 // Text: its digits. (P1.6)
@@ -116,7 +116,7 @@ func Parse(s string) (api.Int, api.Errno) {
 	if !ok {
 		return api.Int{}, api.ErrForm
 	}
-	return fit(x)
+	return x.Fit()
 }
 
 // check: may all of these numbers be?
@@ -134,13 +134,5 @@ func reckon(x, y api.Int, do func(a, b large.Int) large.Int) (api.Int, api.Errno
 	if e := check(x, y); e != api.OK {
 		return api.Int{}, e
 	}
-	return fit(do(large.From(x), large.From(y)))
-}
-
-// fit: a number as an answer, if its limbs are not too many.
-func fit(x large.Int) (api.Int, api.Errno) {
-	if x.Limbs() > api.MaxLimbs {
-		return api.Int{}, api.ErrLimit
-	}
-	return x.Int(), api.OK
+	return do(large.From(x), large.From(y)).Fit()
 }
