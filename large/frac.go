@@ -72,6 +72,16 @@ func (x Frac) Quo(y Frac) Frac {
 	return x.Mul(turned)
 }
 
+// Above: the least multiple of 2^-n that is not below x; n is not below nought.
+func (x Frac) Above(n int) Frac {
+	one := Of(1)
+	units, rest := x.num.Shift(n).QuoRem(x.den)
+	if rest.Sign() > 0 { // below nought, what is cut off has made it greater already
+		units = units.Add(one)
+	}
+	return Ratio(units, one.Shift(n))
+}
+
 // over: x / g, where g goes into x.
 func (x Int) over(g Int) Int {
 	q, _ := x.QuoRem(g)

@@ -82,3 +82,31 @@ func TestFracCommon(t *testing.T) {
 		looksFrac(t, x, ratio(t, b.Mul(h), a.Mul(g)))
 	}
 }
+
+// TestAbove: the least multiple that is not below, of both signs, of multiples and of what lies a hair beside them.
+func TestAbove(t *testing.T) {
+	r := rand.New(rand.NewSource(9))
+	ask := func(x large.Frac, n int) {
+		t.Helper()
+		a := worthFrac(x)
+		unit := new(big.Rat).SetFrac(big.NewInt(1), new(big.Int).Lsh(big.NewInt(1), uint(n)))
+		got := worthFrac(x.Above(n))
+		if units := new(big.Rat).Quo(got, unit); !units.IsInt() || got.Cmp(a) < 0 || new(big.Rat).Sub(got, unit).Cmp(a) >= 0 {
+			t.Fatalf("Above of %v, %d = %v", a, n, got)
+		}
+		sameFrac(t, "Above", x.Above(n), got)
+		sameFrac(t, "x", x, a)
+	}
+	for range 1000 {
+		n := r.Intn(200)
+		x := ratio(t, sized(r, r.Intn(5)), sized(r, r.Intn(5)))
+		ask(x, n)
+		ask(x.Neg(), n)
+		ask(ratio(t, sized(r, r.Intn(5)), large.Of(1).Shift(n)), n)
+		hair := ratio(t, large.Of(1), sized(r, 9))
+		ask(ratio(t, sized(r, r.Intn(3)), large.Of(1).Shift(n)).Add(hair), n)
+	}
+	ask(ratio(t, large.Of(0), large.Of(1)), 1074)
+	ask(ratio(t, large.Of(1), sized(r, 3000)), 1074) // beyond the limit of the layers
+	ask(ratio(t, large.Of(7), large.Of(-1)), 0)
+}
