@@ -15,7 +15,7 @@ type plain struct {
 func plainly(m large.Matrix) plain {
 	switch {
 	case m.A.Sign() < 0:
-		return plain{api.ElFlip, of(0)}
+		return plain{api.ElFlip, large.Whole(0)}
 	case m.B.Sign() != 0:
 		return plain{api.ElSpace, m.B}
 	}
@@ -33,15 +33,15 @@ func fit(l []plain) ([]api.Element, api.Errno) {
 		if e != api.OK {
 			return nil, e
 		}
-		answer[i] = api.Element{Kind: x.kind, P: p, Q: of(0).Frac()}
+		answer[i] = api.Element{Kind: x.kind, P: p, Q: large.Whole(0).Frac()}
 	}
 	return answer, api.OK
 }
 
 // parts: by the chapter's table, empty lenses too.
 func parts(m large.Matrix) []plain {
-	flip := plain{api.ElFlip, of(0)}
-	one := of(1)
+	flip := plain{api.ElFlip, large.Whole(0)}
+	one := large.Whole(1)
 	switch b := m.B.Sign(); {
 	case b > 0:
 		first, last := one.Sub(m.A).Quo(m.B), one.Sub(m.D).Quo(m.B)
@@ -53,7 +53,7 @@ func parts(m large.Matrix) []plain {
 	case m.A.Cmp(one.Neg()) == 0:
 		return []plain{flip, {api.ElLens, m.C}}
 	case m.A.Sign() < 0:
-		return append([]plain{{api.ElSpace, one}}, parts(m.Mul(space(one.Neg())))...)
+		return append([]plain{{api.ElSpace, one}}, parts(m.Mul(large.Space(one.Neg())))...)
 	}
 	return append([]plain{flip}, parts(m.Neg())...)
 }

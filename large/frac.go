@@ -14,6 +14,9 @@ func Ratio(num, den Int) Frac {
 	return Frac{num.over(g), den.over(g)}
 }
 
+// Whole: a whole number.
+func Whole(n int64) Frac { return Frac{Of(n), Of(1)} }
+
 // FromFrac: a fraction that may be.
 func FromFrac(x api.Frac) Frac { return Frac{From(x.Num), From(x.Den)} }
 

@@ -8,6 +8,12 @@ type (
 	Matrix struct{ A, B, C, D Frac }
 )
 
+// Space: of a space of a length, which may be below nought.
+func Space(length Frac) Matrix { return Matrix{A: Whole(1), B: length, C: Whole(0), D: Whole(1)} }
+
+// Lens: of a lens of a power.
+func Lens(power Frac) Matrix { return Matrix{A: Whole(1), B: Whole(0), C: power.Neg(), D: Whole(1)} }
+
 // FromRay: a ray that may be.
 func FromRay(r api.Ray) Ray { return Ray{FromFrac(r.Y), FromFrac(r.U)} }
 

@@ -56,9 +56,23 @@ func TestMatrix(t *testing.T) {
 	}
 }
 
+// TestSpaceAndLens: of lengths and powers on both sides of nought.
+func TestSpaceAndLens(t *testing.T) {
+	r := rand.New(rand.NewSource(12))
+	one, none := big.NewRat(1, 1), new(big.Rat)
+	for _, n := range []int64{0, 1, -1, 1<<63 - 1, -1 << 63} {
+		sameFrac(t, "Whole", large.Whole(n), big.NewRat(n, 1))
+	}
+	for range 50 {
+		x := someFrac(t, r, 3)
+		sameMatrix(t, "Space", large.Space(x), [4]*big.Rat{one, worthFrac(x), none, one})
+		sameMatrix(t, "Lens", large.Lens(x), [4]*big.Rat{one, none, new(big.Rat).Neg(worthFrac(x)), one})
+	}
+}
+
 // TestMatrixBeyond: a number with too many limbs in any one place.
 func TestMatrixBeyond(t *testing.T) {
-	one := large.Ratio(large.Of(1), large.Of(1))
+	one := large.Whole(1)
 	for _, x := range []large.Frac{large.Ratio(large.Of(1).Shift(32*api.MaxLimbs), large.Of(1)), large.Ratio(large.Of(-1), large.Of(1).Shift(32*api.MaxLimbs))} {
 		for _, m := range []large.Matrix{{x, one, one, one}, {one, x, one, one}, {one, one, x, one}, {one, one, one, x}} {
 			if got, e := m.Fit(); e != api.ErrLimit || got.A.Den.Mag != nil || got.D.Den.Mag != nil {
