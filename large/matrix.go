@@ -49,6 +49,9 @@ func (m Matrix) Mul(n Matrix) Matrix {
 // Neg: with the other sign, as a flip makes it.
 func (m Matrix) Neg() Matrix { return Matrix{m.A.Neg(), m.B.Neg(), m.C.Neg(), m.D.Neg()} }
 
+// Mirror: of the same the other way round.
+func (m Matrix) Mirror() Matrix { return Matrix{m.D, m.B, m.C, m.A} }
+
 // Through: what becomes of a ray.
 func (m Matrix) Through(r Ray) Ray {
 	return Ray{m.A.Mul(r.Y).Add(m.B.Mul(r.U)), m.C.Mul(r.Y).Add(m.D.Mul(r.U))}
