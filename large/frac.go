@@ -37,6 +37,9 @@ func (x Frac) Den() Int { return x.den }
 // Limbs: how many limbs the greater one of both numbers has.
 func (x Frac) Limbs() int { return max(x.num.Limbs(), x.den.Limbs()) }
 
+// Bits: how many binary digits the greater one of both numbers has.
+func (x Frac) Bits() int { return max(x.num.Bits(), x.den.Bits()) }
+
 // Sign: -1, 0 or 1.
 func (x Frac) Sign() int { return x.num.Sign() }
 
@@ -45,6 +48,9 @@ func (x Frac) Cmp(y Frac) int { return x.num.Mul(y.den).Cmp(y.num.Mul(x.den)) }
 
 // Neg: with the other sign.
 func (x Frac) Neg() Frac { return Frac{x.num.Neg(), x.den} }
+
+// Abs: without a sign.
+func (x Frac) Abs() Frac { return Frac{x.num.Abs(), x.den} }
 
 // Add: the sum.
 func (x Frac) Add(y Frac) Frac {
@@ -83,6 +89,24 @@ func (x Frac) Above(n int) Frac {
 		units = units.Add(one)
 	}
 	return Ratio(units, one.Shift(n))
+}
+
+// Times: the greatest whole number that is not above x times n.
+func (x Frac) Times(n Int) Int {
+	all, rest := x.num.Mul(n).QuoRem(x.den)
+	if rest.Sign() < 0 { // below nought, what is cut off has made it greater
+		return all.Sub(Of(1))
+	}
+	return all
+}
+
+// Common: the least number above nought into which all denominators go.
+func Common(l ...Frac) Int {
+	all := Of(1)
+	for _, x := range l {
+		all = all.Mul(x.den.over(all.GCD(x.den)))
+	}
+	return all
 }
 
 // over: x / g, where g goes into x.

@@ -20,8 +20,8 @@ func sameFrac(t *testing.T, what string, got large.Frac, want *big.Rat) {
 	same(t, what+", the numerator", large.From(told.Num), want.Num())
 	same(t, what+", the denominator", large.From(told.Den), want.Denom())
 	same(t, what+", Den", got.Den(), want.Denom())
-	if limbs := (max(want.Num().BitLen(), want.Denom().BitLen()) + 31) / 32; got.Limbs() != limbs {
-		t.Fatalf("%s: %d limbs, not %d", what, got.Limbs(), limbs)
+	if bits := max(want.Num().BitLen(), want.Denom().BitLen()); got.Bits() != bits || got.Limbs() != (bits+31)/32 {
+		t.Fatalf("%s: %d bits, %d limbs, not %d bits", what, got.Bits(), got.Limbs(), bits)
 	}
 }
 
@@ -33,6 +33,7 @@ func looksFrac(t *testing.T, x, y large.Frac) {
 	sameFrac(t, "Sub", x.Sub(y), new(big.Rat).Sub(a, b))
 	sameFrac(t, "Mul", x.Mul(y), new(big.Rat).Mul(a, b))
 	sameFrac(t, "Neg", x.Neg(), new(big.Rat).Neg(a))
+	sameFrac(t, "Abs", x.Abs(), new(big.Rat).Abs(a))
 	if y.Sign() != 0 {
 		sameFrac(t, "Quo", x.Quo(y), new(big.Rat).Quo(a, b))
 	}
@@ -109,4 +110,45 @@ func TestAbove(t *testing.T) {
 	ask(ratio(t, large.Of(0), large.Of(1)), 1074)
 	ask(ratio(t, large.Of(1), sized(r, 3000)), 1074) // beyond the limit of the layers
 	ask(ratio(t, large.Of(7), large.Of(-1)), 0)
+}
+
+// TestTimes: the greatest whole number that is not above, of both signs, of whole numbers and of what lies a hair beside them.
+func TestTimes(t *testing.T) {
+	r := rand.New(rand.NewSource(10))
+	ask := func(x large.Frac, n large.Int) {
+		t.Helper()
+		all := new(big.Rat).Mul(worthFrac(x), new(big.Rat).SetInt(worth(n)))
+		floor := new(big.Int).Div(all.Num(), all.Denom()) // rounds down, as the denominator is above nought
+		same(t, "Times", x.Times(n), floor)
+		same(t, "Times of the negative", x.Neg().Times(n.Neg()), floor)
+	}
+	for range 1000 {
+		n := sized(r, r.Intn(4))
+		x := ratio(t, sized(r, r.Intn(5)), sized(r, r.Intn(5)))
+		ask(x, n)
+		ask(x.Neg(), n)
+		ask(ratio(t, sized(r, r.Intn(5)), n), n)
+		hair := ratio(t, large.Of(1), sized(r, 9))
+		ask(ratio(t, sized(r, r.Intn(3)), n).Add(hair), n)
+	}
+	ask(large.Whole(0), large.Of(1))
+	ask(large.Whole(-1), large.Of(3))
+	ask(large.Whole(-1), large.Of(0))
+	ask(ratio(t, large.Of(-1), sized(r, 3000)), large.Of(5)) // beyond the limit of the layers
+}
+
+// TestCommonOfDenominators: the least number into which all denominators go.
+func TestCommonOfDenominators(t *testing.T) {
+	r := rand.New(rand.NewSource(11))
+	same(t, "Common of none", large.Common(), big.NewInt(1))
+	for i := range 300 {
+		g, h := sized(r, 1+r.Intn(3)), sized(r, 1+r.Intn(3))
+		l := []large.Frac{ratio(t, sized(r, 2), g), ratio(t, sized(r, 2), g.Mul(h)), ratio(t, sized(r, 2), h.Mul(large.Of(12))), large.Whole(int64(i)), ratio(t, sized(r, 1), large.Of(18))}
+		want := big.NewInt(1)
+		for _, x := range l {
+			den := worth(x.Den())
+			want.Mul(want, new(big.Int).Div(den, new(big.Int).GCD(nil, nil, want, den)))
+		}
+		same(t, "Common", large.Common(l...), want)
+	}
 }

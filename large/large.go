@@ -94,6 +94,9 @@ func (x Int) Cmp(y Int) int {
 // Neg: with the other sign.
 func (x Int) Neg() Int { return made(!x.neg, x.size) }
 
+// Abs: without a sign.
+func (x Int) Abs() Int { return made(false, x.size) }
+
 // Add: the sum.
 func (x Int) Add(y Int) Int {
 	if x.neg == y.neg {

@@ -64,6 +64,7 @@ func looks(t *testing.T, x, y large.Int) {
 	same(t, "Sub", x.Sub(y), new(big.Int).Sub(a, b))
 	same(t, "Mul", x.Mul(y), new(big.Int).Mul(a, b))
 	same(t, "Neg", x.Neg(), new(big.Int).Neg(a))
+	same(t, "Abs", x.Abs(), new(big.Int).Abs(a))
 	same(t, "GCD", x.GCD(y), new(big.Int).GCD(nil, nil, new(big.Int).Abs(a), new(big.Int).Abs(b)))
 	if x.Cmp(y) != a.Cmp(b) || x.Sign() != a.Sign() || x.Bits() != a.BitLen() || x.Limbs() != (a.BitLen()+31)/32 {
 		t.Fatalf("%v and %v: Cmp %d, Sign %d, Bits %d, Limbs %d", a, b, x.Cmp(y), x.Sign(), x.Bits(), x.Limbs())

@@ -57,6 +57,9 @@ func (m Matrix) Through(r Ray) Ray {
 	return Ray{m.A.Mul(r.Y).Add(m.B.Mul(r.U)), m.C.Mul(r.Y).Add(m.D.Mul(r.U))}
 }
 
+// Cross: what two rays keep: Y of the one times U of the other less the other way round.
+func (r Ray) Cross(s Ray) Frac { return r.Y.Mul(s.U).Sub(s.Y.Mul(r.U)) }
+
 // fit: all of these as the layers hand them on, or ErrLimit, if one of them does not fit.
 func fit(l ...Frac) ([]api.Frac, api.Errno) {
 	answer := make([]api.Frac, len(l))
